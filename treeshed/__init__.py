@@ -1,0 +1,1 @@
+"""Treeshed: trees that calls, branches and versions share."""

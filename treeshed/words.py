@@ -4,6 +4,7 @@ ALPHABET = "abcdefghijklmnopqrstuvwxyz"
 FEWEST_LETTERS = 2
 LONGEST_WORD = 200
 GREATEST_VALUE = 9
+LONGEST_NAME = 20
 
 
 def is_integer(value):
@@ -28,6 +29,13 @@ def is_word(value, letters):
 def is_value(value):
     """Whether any value is one that a place may keep."""
     return is_integer(value) and 1 <= value <= GREATEST_VALUE
+
+
+def is_name(value):
+    """Whether any value is a name of 1 to 20 small letters."""
+    if not isinstance(value, str) or not 1 <= len(value) <= LONGEST_NAME:
+        return False
+    return all([letter in ALPHABET for letter in value])
 
 
 def sort_key(word, letters):

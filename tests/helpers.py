@@ -40,7 +40,8 @@ def check_raises(test, error, fields, call, *arguments):
     with test.assertRaises(Exception) as caught:
         call(*arguments)
     raised = caught.exception
-    test.assertIs(raised.__class__, error, f"{raised!r} for {arguments!r:.200}")
+    if raised.__class__ is not error:
+        test.fail(f"{raised!r} in the place of {error.__name__} for {arguments!r:.200}")
     for name, value in fields.items():
         test.assertTrue(alike(getattr(raised, name), value), f"{name} is {getattr(raised, name)!r:.200}")
 

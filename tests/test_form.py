@@ -14,6 +14,38 @@ INTERFACE = {
         "Rule": ["root", "others"], "kind_of": ["tree", "place"], "flags_of": ["rule"], "least_part": ["rule"],
         "all_trees": ["rule", "letters", "size", "values"], "known_rule": ["name"],
     },
+    "routines": {"Routine": ["down", "turn", "up"]},
+    "plays": {
+        "call": ["tree", "routine", "word", "value"], "played": ["tree", "calls"],
+        "Played": ["trees", "answers", "made", "struck", "old", "kept_shared"],
+    },
+    "questions": {
+        "Question": ["calls", "one", "other", "aspects", "where"], "relation_of": ["pair"],
+        "enough_values": ["question"], "rows_of": ["question", "words"], "stories_of": ["question", "words", "there"],
+        "unlike_on": ["question", "rule", "tree", "pair"],
+    },
+    "tables": {
+        "is_let": ["rule", "cell", "there", "root"], "longer": ["question", "rule", "words", "cell", "below"],
+        "whole": ["question", "rule", "cell", "below"], "is_table": ["question", "value"],
+    },
+    "judging": {
+        "judge": ["question", "rule", "relation", "values"],
+        "Alike": ["question", "rule", "relation", "value_list", "tables"], "is_alike": ["paper"],
+        "Unlike": ["question", "rule", "relation", "tree", "pair", "how"], "is_unlike": ["paper"],
+        "kept_by": ["routine", "rule"], "saves": ["routine", "rule"], "undoes": ["routine", "other", "rule", "kind"],
+        "keeps_cursor": ["routine", "rule", "relation", "kept"],
+    },
+    "books": {
+        "Book": ["rows"], "pairs": ["first", "second", "rule", "relation", "alike", "values"],
+        "booked": ["deeds", "rule", "relation"], "known_deeds": [], "known_book": [],
+    },
+    "histories": {
+        "answers_of": ["deeds", "tree", "history"], "in_the_way": ["book", "deeds", "tree", "history", "number"],
+        "undone": ["book", "deeds", "tree", "history", "number"], "least_row": ["book", "deeds", "tree", "history"],
+    },
+    "plans": {
+        "Plan": ["gone", "alike", "unlike", "tidy", "flags"], "known_plan": ["name"], "with_flags": ["plan", "rule"],
+    },
 }
 METHODS = {
     ("trees", "Tree"): {
@@ -23,7 +55,18 @@ METHODS = {
     ("rules", "Rule"): {
         "__eq__": ["other"], "keeps": ["tree"], "broken_at": ["tree"], "is_exact": [], "tree_of": ["letters", "items"],
     },
+    ("routines", "Routine"): {"__eq__": ["other"], "text": [], "read": ["text"]},
+    ("questions", "Question"): {"__eq__": ["other"]},
+    ("books", "Book"): {
+        "__eq__": ["other"], "told_rows": [], "commutes": ["first", "kind", "second", "later", "relation", "alike"],
+    },
+    ("plans", "Plan"): {"__eq__": ["other"]},
 }
+BUILTIN_METHODS = """append clear copy count endswith extend find get index insert isalnum isalpha isdigit islower
+    isspace isupper items join keys ljust lower lstrip partition pop remove replace reverse rfind rjust rpartition
+    rsplit rstrip setdefault split splitlines startswith strip update upper values zfill bit_length add discard""".split()
+NO_ATTRIBUTES = """items keys values pop update append clear extend insert remove reverse setdefault sort args encode
+    decode hex fromhex format""".split()
 LIBRARY = {
     "heapq": ["heappush", "heappop", "heapify", "heapreplace", "heappushpop"],
     "math": ["gcd", "lcm", "isqrt", "comb", "perm", "factorial"],
@@ -196,6 +239,57 @@ class LanguageTest(unittest.TestCase):
                     for decorator in node.decorator_list:
                         told = decorator.id if isinstance(decorator, ast.Name) else decorator.attr
                         self.assertIn(told, ["classmethod", "staticmethod", "property", "setter"], path)
+
+    def test_methods_and_attributes(self):
+        methods, attributes, apart = {}, {}, set()
+        for path, _, tree in files():
+            for node in ast.walk(tree):
+                if isinstance(node, ast.ClassDef):
+                    for inner in [inner for inner in node.body if isinstance(inner, ast.FunctionDef)]:
+                        methods.setdefault(inner.name, []).append(node.name)
+                        if inner.decorator_list:
+                            apart.add(inner.name)
+                if isinstance(node, ast.Attribute) and isinstance(node.ctx, ast.Store):
+                    attributes[node.attr] = path
+        for name in attributes:
+            self.assertNotIn(name, list(methods) + NO_ATTRIBUTES, attributes[name])
+        for name in apart:
+            self.assertEqual(len(methods[name]), 1, name)
+
+    def test_methods_that_are_called(self):
+        own = {node.name for _, _, tree in files() for node in ast.walk(tree) if isinstance(node, ast.FunctionDef)}
+        for path, _, tree in files():
+            for node in ast.walk(tree):
+                if isinstance(node, ast.Call) and isinstance(node.func, ast.Attribute):
+                    self.assertIn(node.func.attr, list(own) + BUILTIN_METHODS, path)
+
+    def test_is_stands_beside_none_and_bools(self):
+        for path, _, tree in files():
+            for node in ast.walk(tree):
+                if isinstance(node, ast.Compare) and isinstance(node.ops[0], (ast.Is, ast.IsNot)):
+                    self.assertIn(node.comparators[0].value, (None, True, False), path)
+
+    def test_sets_are_used_on_the_spot(self):
+        for path, _, tree in files():
+            near = []
+            for node in ast.walk(tree):
+                if isinstance(node, ast.Call) and getattr(node.func, "id", "") in ("sorted", "len"):
+                    near.extend(node.args)
+            for node in ast.walk(tree):
+                is_set = isinstance(node, ast.Call) and getattr(node.func, "id", "") in ("set", "frozenset")
+                if is_set or isinstance(node, (ast.Set, ast.SetComp)):
+                    self.assertIn(node, near, path)
+
+    def test_files_do_not_import_each_other(self):
+        imports = {path.stem: [node.module[9:] for node in tree.body if isinstance(node, ast.ImportFrom)
+                               and node.module.startswith("treeshed.")] for path, _, tree in files()}
+        done = []
+        while imports:
+            free = [name for name, needed in imports.items() if all(other in done for other in needed)]
+            self.assertTrue(free, imports)
+            for name in free:
+                done.append(name)
+                del imports[name]
 
     def test_no_generator_expression_where_a_list_is_asked_for(self):
         for path, _, tree in files():

@@ -128,7 +128,7 @@ class Closing:
 
     def __init__(self, question, rule, relation, values):
         self.folder = Folder(question, rule)
-        self.values = tuple(values)
+        self.value_list = tuple(values)
         self.cells = let_cells(rule, values, False)
         self.root_cells = let_cells(rule, values, True)
         self.rest_places = least_part(rule)

@@ -256,7 +256,7 @@ class Fold:
 
 
 def played_rows(fold, start):
-    """The states behind all rows from a start, and for each a list of the calls that may follow, with their outcomes."""
+    """The states behind all rows from a start, and for each a list of the calls that may follow and their outcomes."""
     states = [start]
     outcomes = [[] for _ in range(fold.frame.many)]
     for row, number in fold.frame.steps:

@@ -49,10 +49,10 @@ def judge(question, rule, relation, values):
     for root in closing.roots():
         how = verdict(closing.fold_of(root))
         if how not in HOLDING:
-            tree, pair = tree_and_pair(root, rule, closing.values)
+            tree, pair = tree_and_pair(root, rule, closing.value_list)
             return Unlike(question, rule, relation, tree, pair, how)
     tables = (closing.zero.all_tables(), closing.one.all_tables(), closing.both.all_tables())
-    return Alike(question, rule, relation, closing.values, tables)
+    return Alike(question, rule, relation, closing.value_list, tables)
 
 
 def is_alike(paper):

@@ -178,7 +178,8 @@ class PairsTest(unittest.TestCase):
         # Put ab, strike aa: if aa is struck first, the place a goes, and another one comes in its place.
         deeds = known_deeds()
         for first, second, relation, unlike in (
-            ("put", "put", "apart", []), ("strike", "strike", "within", []), ("put", "strike", "apart", [("yes", "yes")]),
+            ("put", "put", "apart", []), ("strike", "strike", "within", []),
+            ("put", "strike", "apart", [("yes", "yes")]),
             ("put", "strike", "within", [("yes", "yes")]), ("strike", "put", "around", [("yes", "yes")]),
             ("set", "put", "around", []),
         ):
@@ -186,7 +187,8 @@ class PairsTest(unittest.TestCase):
             expected = {
                 kinds: ("answers", "trees", "shared") if kinds in unlike else ASPECTS
                 for kinds in itertools.product(("yes", "no"), repeat=2)}
-            self.assertTrue(alike(dict(sorted(shown.items())), dict(sorted(expected.items()))), (first, second, relation))
+            told = [dict(sorted(rows.items())) for rows in (shown, expected)]
+            self.assertTrue(alike(*told), (first, second, relation))
 
     def test_drawn_routines_on_small_trees(self):
         source = seeded(111)

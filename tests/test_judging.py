@@ -2,6 +2,7 @@
 
 import itertools
 import unittest
+import unittest.mock
 
 from tests.drawing import some_question, some_routine
 from tests.helpers import KINDS, alike, any_values, check_raises, seconds_of, seeded
@@ -146,6 +147,42 @@ class JudgeTest(unittest.TestCase):
             question = Question([(routine, 0, 1)], [0], [], ["trees"])
             paper = judge(question, FREE, "same", [1])
             self.assertEqual([paper.tree.size, is_unlike(paper)], [size, True])
+
+    def test_missing_places_cost_nothing(self):
+        # It shows where a word goes on for two missing places, or at a root with a child.
+        routine = Routine.read(
+            "down:\n    if not next:\n        make\nturn:\n    if at root and others == 1:\n        flag = true\nup:\n"
+            "    if not at root:\n        return yes\n    cut")
+        question = Question([(routine, 0, 1)], [0], [], ["trees"])
+        for rule in (FREE, BARE):
+            paper = judge(question, rule, "same", [1])
+            self.assertEqual([paper.tree.size, len(paper.pair[0]), is_unlike(paper)], [1, 2, True])
+
+    def test_other_children_cost_a_place_each(self):
+        # It shows at a root with a flag and no child, or without a flag and with one or two others.
+        routine = Routine.read("down:\n    stop\nturn:\n    if not flag and not others == 0:\n        flag = true")
+        question = Question([(routine, 0, 1)], [0], [], ["trees"])
+        kinds = [(False, False, 1), (False, False, 2), (False, True, 0)]
+        paper = judge(question, Rule(kinds, [(False, False, 0)]), "same", [1])
+        self.assertEqual([paper.tree.size, is_unlike(paper)], [2, True])
+        paper = judge(question, Rule(kinds[1:], [(False, False, 0)]), "same", [1])
+        self.assertEqual([paper.tree.size, is_unlike(paper)], [3, True])
+
+    def test_just_as_many_as_there_may_be(self):
+        for relation, words in (("around", 0), ("within", 1), ("same", 2), ("apart", 0), ("apart", 1), ("apart", 2)):
+            paper = judge(Question(QUESTION.calls, [0, 1], [1, 0], []), PLAIN, relation, [1, 2])
+            many = max([len(paper.tables[number]) for number in range(words + 1)])
+            with unittest.mock.patch("treeshed.closing.MOST_TABLES", max(map(len, paper.tables))):
+                self.assertIsInstance(judge(paper.question, PLAIN, relation, [1, 2]), Alike)
+            with unittest.mock.patch("treeshed.closing.MOST_TABLES", many - 1):
+                fields = {"what": "tables", "many": many, "most": many - 1}
+                check_raises(self, TooMany, fields, judge, paper.question, PLAIN, relation, [1, 2])
+        joints = len(paper.tables[0]) * len(paper.tables[1])
+        with unittest.mock.patch("treeshed.closing.MOST_JOINTS", joints):
+            self.assertIsInstance(judge(paper.question, PLAIN, "apart", [1, 2]), Alike)
+        with unittest.mock.patch("treeshed.closing.MOST_JOINTS", joints - 1):
+            fields = {"what": "joints", "many": joints, "most": joints - 1}
+            check_raises(self, TooMany, fields, judge, paper.question, PLAIN, "apart", [1, 2])
 
     def test_rest_places_are_those_that_the_rule_lets(self):
         routine = Routine.read("turn:\n    if others > 1:\n        unmark")
@@ -319,9 +356,9 @@ class AlikeTest(unittest.TestCase):
         zero, one, both = fields[4]
         self.assertIs(is_alike(Alike(*fields[:4], (zero, one, (both * 1000)[:1000]))), True)
         self.assertIs(is_alike(Alike(*fields[:4], (zero, one, (both * 1001)[:1001]))), False)
-        many = 2000 // len(one)
-        self.assertIs(is_alike(Alike(*fields[:4], ((zero * 2000)[:many], one, both))), True)
-        self.assertIs(is_alike(Alike(*fields[:4], ((zero * 2000)[:many + 1], one, both))), False)
+        for first, second, told in ((50, 40, True), (40, 50, True), (69, 29, False), (29, 69, False), (1000, 2, False)):
+            tables = ((zero * 1000)[:first], (one * 1000)[:second], both)
+            self.assertIs(is_alike(Alike(*fields[:4], tables)), told)
         fields = self.paper("around")
         zero, one, both = fields[4]
         self.assertIs(is_alike(Alike(*fields[:4], ((zero * 1000)[:1000], one, both))), True)

@@ -76,6 +76,17 @@ class CallTest(unittest.TestCase):
             self.assertTrue(alike(shown, answer), blocks)
             self.assertEqual(told(behind), {**told(tree), **changed})
 
+    def test_others_counts_two_and_more(self):
+        for many in range(6):
+            for there, ends in ((False, False), (True, False), (False, True)):
+                children = "bcdefg"[:many] + ("a" if there else "")
+                tree = Tree("abcdefg", [("", None, False)] + [(letter, 1, False) for letter in children])
+                for told in range(3):
+                    routine = Routine(
+                        [("stop",)], [("if", ("others", told), [("return", "yes")], []), ("return", "no")], [])
+                    expected = "yes" if min(many, 2) == told else "no"
+                    self.assertEqual(call(tree, routine, "" if ends else "a", 1)[0], expected, (many, there, told))
+
     def test_up_is_not_done_where_it_turns_at_the_root(self):
         routine = Routine([], [], [("mark",), ("return", "yes")])
         for word in ("", "b", "bb"):

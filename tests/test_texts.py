@@ -81,6 +81,10 @@ WRONG_TEXTS = [
     ("down:\n    if own:\n        mark\n    else :\n        mark", 3),
     ("down:\n    if own:\n        mark\n    elif:\n        mark", 3),
     ("down:\n    if own:\n        if flag:\n            mark\n    else:\n            mark", 5),
+    ("down:\n    if own:\n        mark\n    elsf own:\n        mark\n    mork", 3),
+    ("down:\n    ib own:\n        mark\n    mork", 1),
+    ("down:\n    if own:\n        mark\n    elif own\n        mark\n    mork", 3),
+    ("down:\n    if own\n        mark\n    mork", 1),
     # An else whose block is just one if, told only if nothing else is wrong.
     ("down:\n    if own:\n        mark\n    else:\n        if flag:\n            mark", 3),
     ("up:\n    if own:\n        mark\n    else:\n        if own:\n            cut\n        else:\n            cut", 3),

@@ -92,7 +92,7 @@ class TableSet:
             self.offer_over(lower)
         while self.waiting:
             table, part = self.offers[heappop(self.waiting)[-1]]
-            if part.told is None and self.least[self.number_of[table]] == (part.places, part.height):
+            if self.least[self.number_of[table]] == (part.places, part.height):
                 part.told = self.closing.folder.part_of(table)
                 self.parts.append(part)
                 self.offer_over((part,))
@@ -131,7 +131,8 @@ class Closing:
         self.value_list = tuple(values)
         self.cells = let_cells(rule, values, False)
         self.root_cells = let_cells(rule, values, True)
-        self.rest_places = least_part(rule)
+        # None if there are no such parts: then no cell that is let has any.
+        self.rest_places = least_part(rule) or 0
         self.zero = self.closed_set((0,), relation in ("around", "apart"), [()])
         self.one = self.closed_set((1,), relation in ("within", "apart"), [()])
         joints = len(self.zero.parts) * len(self.one.parts)
@@ -151,8 +152,7 @@ class Closing:
         """The part with this cell over these parts."""
         places = 0
         if cell is not None:
-            rest = cell[2]
-            places = 1 + sum([part.places for part in lower]) + (rest * self.rest_places if rest > 0 else 0)
+            places = 1 + sum([part.places for part in lower]) + cell[2] * self.rest_places
         height = 1 + max([part.height for part in lower]) if lower else 0
         return Part(cell, lower, places, height)
 

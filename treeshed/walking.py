@@ -15,8 +15,7 @@ class LiveTree:
         self.children = {place: tree.below(place) for place, value, flag in tree.rows}
 
     def as_tree(self):
-        """The Tree that it is now."""
-        self.check_size()
+        """The Tree that it is now; TooMany if it has too many places."""
         return Tree(self.letters, [(place, self.value_at[place], self.flag_at[place]) for place in self.value_at])
 
     def check_size(self):

@@ -34,10 +34,10 @@ class Plan:
         self._told_flags = None if flags is None else tuple([(key, flags[key]) for key in FLAG_KEYS])
 
     def __eq__(self, other):
-        if not isinstance(other, Plan):
-            return False
-        words_alike = (self.gone, self.alike, self.unlike) == (other.gone, other.alike, other.unlike)
-        return words_alike and self.tidy == other.tidy and self._told_flags == other._told_flags
+        return (
+            isinstance(other, Plan) and self.gone == other.gone and self.alike == other.alike
+            and self.unlike == other.unlike and self.tidy == other.tidy
+            and self._told_flags == other._told_flags)
 
     @property
     def flags(self):

@@ -24,11 +24,9 @@ class Question:
         self.where = checked_where({} if where is None else where, one)
 
     def __eq__(self, other):
-        if not isinstance(other, Question):
-            return False
-        scripts_alike = self.one == other.one and self.other == other.other
-        asked_alike = self.aspects == other.aspects and self.where == other.where
-        return scripts_alike and asked_alike and self.calls == other.calls
+        return (
+            isinstance(other, Question) and self.calls == other.calls and self.one == other.one
+            and self.other == other.other and self.aspects == other.aspects and self.where == other.where)
 
 
 def checked_calls(calls):

@@ -28,9 +28,9 @@ class Routine:
         return routine
 
     def __eq__(self, other):
-        if not isinstance(other, Routine):
-            return False
-        return self.down == other.down and self.turn == other.turn and self.up == other.up
+        return (
+            isinstance(other, Routine) and self.down == other.down and self.turn == other.turn
+            and self.up == other.up)
 
     def text(self):
         """The text that read takes."""

@@ -248,10 +248,22 @@ class BookedTest(unittest.TestCase):
     def test_the_known_book_tells_what_dicts_show(self):
         self.assertTrue(alike(dict(sorted(known_book().told_rows().items())), dict(sorted(map_keys().items()))))
 
-    def test_the_known_book_is_soon_there_and_new_each_time(self):
-        self.assertLess(seconds_of(known_book), 2)
-        self.assertEqual(known_book(), known_book())
-        self.assertIsNot(known_book(), known_book())
+    def test_a_thousand_known_books_are_soon_there(self):
+        self.assertLess(seconds_of(lambda: [known_book() for _ in range(1000)]), 3)
+
+    def test_known_books_are_equal_and_new_each_time(self):
+        books = [known_book(), known_book()]
+        self.assertEqual(books[0], books[1])
+        self.assertIsNot(books[0], books[1])
+        told = books[0].told_rows()
+        self.assertIsNot(told, books[0].told_rows())
+        expected = dict(told)
+        told.clear()
+        self.assertTrue(alike([book.told_rows() for book in books + [known_book()]], [expected] * 3))
+        # Also what a book holds within is no other book's.
+        for held in vars(books[0]).values():
+            held.clear()
+        self.assertTrue(alike([books[1].told_rows(), known_book().told_rows()], [expected] * 2))
 
     def test_keys_are_those_of_pairs(self):
         deeds = {name: known_deeds()[name] for name in ("begins", "put", "longest")}

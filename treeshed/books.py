@@ -1,13 +1,10 @@
 """Books: which keys of two deeds commute."""
 
-from treeshed.answers import kind_of_answer
-from treeshed.closing import RELATIONS, Closing, check_asked, is_relation
+from treeshed.closing import Closing, check_asked, is_relation
 from treeshed.errors import BadName, BadRelation
 from treeshed.folding import Ends
-from treeshed.known import TEXTS, known_routine
-from treeshed.plays import played
+from treeshed.known import SAME_WORD, TEXTS, known_routine
 from treeshed.questions import Question, enough_values
-from treeshed.trees import Tree
 from treeshed.words import is_name
 
 PAIR_ASPECTS = ("answers", "trees", "places", "shared")
@@ -15,8 +12,6 @@ PAIR_ASPECTS = ("answers", "trees", "places", "shared")
 BOOK_KINDS = {
     "has": ("yes", "no"), "get": ("is", "no"), "put": ("yes", "no"), "set": ("yes", "no"), "strike": ("yes", "no"),
 }
-# No value, those of two calls, and one more.
-SHOWN_VALUES = (None, 1, 2, 3)
 
 
 class Book:
@@ -85,33 +80,22 @@ def known_deeds():
 def known_book():
     """The Book of has, get, put, set and strike in the rule plain."""
     rows = {}
+    for first, kind, second, later, alike, unlike in SAME_WORD:
+        if alike is not None:
+            rows[(first, kind, second, later, "same", True)] = alike
+        if unlike is not None:
+            rows[(first, kind, second, later, "same", False)] = unlike
     for first in BOOK_KINDS:
         for second in BOOK_KINDS:
-            for alike in (True, False):
-                told = shown_pairs(known_routine(first), known_routine(second), alike)
-                for kind, later in told:
-                    rows[(first, kind, second, later, "same", alike)] = told[(kind, later)]
-                for key in unlike_word_keys(first, second, alike):
-                    rows[key] = True
+            for key in unlike_word_keys(first, second):
+                rows[key] = True
     return Book(rows)
 
 
-def unlike_word_keys(first, second, alike):
+def unlike_word_keys(first, second):
     """A list of the keys of two deeds of the known book with unlike words, which all come up and commute."""
     # In plain these deeds ask and change the value of their own word alone, and a tree is told by its map.
     return [
         (first, kind, second, later, relation, alike)
-        for kind in BOOK_KINDS[first] for later in BOOK_KINDS[second] for relation in RELATIONS if relation != "same"]
-
-
-def shown_pairs(first, second, alike):
-    """For the kinds that two calls with one word answer on maps of this word: whether they commute."""
-    found = {}
-    calls = [(first, "", 1), (second, "", 1 if alike else 2)]
-    for value in SHOWN_VALUES:
-        tree = Tree("ab", [("", value, False)])
-        one, other = played(tree, calls), played(tree, calls[::-1])
-        kinds = tuple([kind_of_answer(answer) for answer in one.answers])
-        same = one.answers == other.answers[::-1] and one.trees[-1] == other.trees[-1]
-        found[kinds] = found.get(kinds, True) and same
-    return found
+        for kind in BOOK_KINDS[first] for later in BOOK_KINDS[second]
+        for relation in ("within", "around", "apart") for alike in (True, False)]

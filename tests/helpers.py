@@ -35,6 +35,13 @@ def alike(one, other):
     return one == other
 
 
+def tupled(value):
+    """The value with its lists as tuples at every depth."""
+    if isinstance(value, (list, tuple)):
+        return tuple(tupled(part) for part in value)
+    return {key: tupled(part) for key, part in value.items()} if isinstance(value, dict) else value
+
+
 def check_raises(test, error, fields, call, *arguments):
     """Checks that the call raises just this error, with attributes of just these values."""
     with test.assertRaises(Exception) as caught:

@@ -2,7 +2,7 @@
 
 from treeshed.closing import Closing, check_asked, is_relation
 from treeshed.errors import BadName, BadRelation
-from treeshed.folding import Ends
+from treeshed.folding import Ends, Folder
 from treeshed.known import SAME_WORD, TEXTS, known_routine
 from treeshed.questions import Question, enough_values
 from treeshed.words import is_name
@@ -38,7 +38,7 @@ class Book:
 def pairs(first, second, rule, relation, alike, values):
     """A dict from the pairs of kinds that two calls answer to the aspects that then hold the other way round."""
     check_asked(relation, values)
-    closing = Closing(pair_question(first, second, alike), rule, relation, values)
+    closing = Closing(Folder(pair_question(first, second, alike), rule), relation, values)
     found = {}
     for root in closing.roots():
         ends = Ends(closing.fold_of(root))

@@ -1,9 +1,12 @@
-"""Closing: all tables of a question that come up in the trees of a rule, each with a least part that has it."""
+"""Closing: all tables of a question that come up in the trees of a rule, each with a least part that has it.
+
+What is told of a part, a table or a fork table, is told by the folder.
+"""
 
 from heapq import heappop, heappush
 
 from treeshed.errors import BadRelation, BadValues, TooMany
-from treeshed.folding import Fold, Folder, table_of
+from treeshed.folding import Fold
 from treeshed.rules import least_part
 from treeshed.tables import is_let
 from treeshed.words import is_value
@@ -65,8 +68,9 @@ class Part:
         self.lower = lower
         self.places = places
         self.height = height
-        # The table, as one below a place; set when it is sure that no part with fewer places has it.
+        # The table, as one below a place, and its number; set when it is sure that no part with fewer places has it.
         self.told = None
+        self.number = None
 
 
 def told_of(parts):
@@ -77,10 +81,11 @@ def told_of(parts):
 class TableSet:
     """The tables of some words, found least part first."""
 
-    def __init__(self, closing, words):
-        self.closing = closing
+    def __init__(self, ground, words):
+        self.ground = ground
         self.words = words
         self.number_of = {}
+        self.tables = []
         self.least = []
         self.offers = []
         self.waiting = []
@@ -91,55 +96,52 @@ class TableSet:
         for lower in bottoms:
             self.offer_over(lower)
         while self.waiting:
-            table, part = self.offers[heappop(self.waiting)[-1]]
-            if self.least[self.number_of[table]] == (part.places, part.height):
-                part.told = self.closing.folder.part_of(table)
+            number, part = self.offers[heappop(self.waiting)[-1]]
+            if self.least[number] == (part.places, part.height):
+                part.told = self.ground.folder.part_of(self.tables[number])
+                part.number = number
                 self.parts.append(part)
                 self.offer_over((part,))
 
     def offer_over(self, lower):
         """Takes the tables of all cells that are let over these parts."""
         told = told_of(lower)
-        for cell in cells_over(told, self.closing.cells):
-            table = table_of(Fold(self.closing.folder, self.words, cell, told))
-            self.offer(table, self.closing.part_over(cell, lower))
+        for cell in cells_over(told, self.ground.cells):
+            table = self.ground.folder.told_over(self.words, cell, told)
+            self.offer(table, self.ground.part_over(cell, lower))
 
     def offer(self, table, part):
         """Takes a part with its table, unless a part that is as small has it."""
+        key = self.ground.folder.key_of(table)
         size = (part.places, part.height)
-        if table not in self.number_of:
-            if len(self.least) == MOST_TABLES:
+        if key not in self.number_of:
+            if len(self.tables) == MOST_TABLES:
                 raise TooMany("tables", MOST_TABLES + 1, MOST_TABLES)
-            self.number_of[table] = len(self.least)
+            self.number_of[key] = len(self.tables)
+            self.tables.append(table)
             self.least.append(size)
-        elif self.least[self.number_of[table]] <= size:
+        elif self.least[self.number_of[key]] <= size:
             return
-        self.least[self.number_of[table]] = size
+        number = self.number_of[key]
+        self.least[number] = size
         heappush(self.waiting, (part.places, part.height, len(self.offers)))
-        self.offers.append((table, part))
+        self.offers.append((number, part))
 
     def all_tables(self):
         """The tuple of the tables, ascending."""
-        return tuple(sorted(self.number_of))
+        return tuple(sorted(self.tables))
 
 
-class Closing:
-    """The sets of tables of a question for a rule and values, closed, and the roots over them."""
+class Ground:
+    """What sets of tables are closed over: a folder, values, and the cells that are let."""
 
-    def __init__(self, question, rule, relation, values):
-        self.folder = Folder(question, rule)
+    def __init__(self, folder, values):
+        self.folder = folder
         self.value_list = tuple(values)
-        self.cells = let_cells(rule, values, False)
-        self.root_cells = let_cells(rule, values, True)
+        self.cells = let_cells(folder.rule, values, False)
+        self.root_cells = let_cells(folder.rule, values, True)
         # None if there are no such parts: then no cell that is let has any.
-        self.rest_places = least_part(rule) or 0
-        self.zero = self.closed_set((0,), relation in ("around", "apart"), [()])
-        self.one = self.closed_set((1,), relation in ("within", "apart"), [()])
-        joints = len(self.zero.parts) * len(self.one.parts)
-        if joints > MOST_JOINTS:
-            raise TooMany("joints", joints, MOST_JOINTS)
-        self.bottoms = bottoms_of(relation, self.zero.parts, self.one.parts)
-        self.both = self.closed_set((0, 1), True, self.bottoms)
+        self.rest_places = least_part(folder.rule) or 0
 
     def closed_set(self, words, named, bottoms):
         """The set of the tables of these words; an empty one if it is not named."""
@@ -156,6 +158,20 @@ class Closing:
         height = 1 + max([part.height for part in lower]) if lower else 0
         return Part(cell, lower, places, height)
 
+
+class Closing(Ground):
+    """The sets of tables of a relation, and the roots over them."""
+
+    def __init__(self, folder, relation, values):
+        Ground.__init__(self, folder, values)
+        self.zero = self.closed_set((0,), relation in ("around", "apart"), [()])
+        self.one = self.closed_set((1,), relation in ("within", "apart"), [()])
+        joints = len(self.zero.parts) * len(self.one.parts)
+        if joints > MOST_JOINTS:
+            raise TooMany("joints", joints, MOST_JOINTS)
+        self.bottoms = bottoms_of(relation, self.zero.parts, self.one.parts)
+        self.both = self.closed_set((0, 1), True, self.bottoms)
+
     def roots(self):
         """A list of all roots, as parts, those with fewest places first."""
         found = []
@@ -167,3 +183,7 @@ class Closing:
     def fold_of(self, root):
         """A root, to be played at."""
         return Fold(self.folder, (0, 1), root.cell, told_of(root.lower), True)
+
+    def all_sets(self):
+        """The triple of the tuples of the tables, each ascending."""
+        return (self.zero.all_tables(), self.one.all_tables(), self.both.all_tables())

@@ -67,6 +67,14 @@ class Folder:
         """The table, as one below a place."""
         return Below(self.frame_of(table[0]), table)
 
+    def told_over(self, words, cell, lower):
+        """What is told of a place that is not the root: its table."""
+        return Stories(Fold(self, words, cell, lower)).table()
+
+    def key_of(self, table):
+        """What stands for a table among the keys of a dict."""
+        return table
+
     def arrived(self, met):
         """What a call that comes from above leaves: (value, flag, there, kept place, outcome or None to go down)."""
         if met not in self.arrivals:
@@ -274,36 +282,48 @@ def steady_rows(fold, trees):
     return steady
 
 
-def table_of(fold):
-    """The table of a place that is not the root."""
-    old_states, outcomes = [], []
-    if fold.cell is not None:
-        old_states, outcomes = played_rows(fold, fold.old_start())
-    new_states, new_outcomes = played_rows(fold, fold.new_start())
-    states = old_states + new_states
-    outcomes = outcomes + new_outcomes
-    trees = firsts([fold.tree_mark(state) for state in states])
-    olds, shares = old_and_shared(fold, old_states, trees)
-    numbers = {}
-    entries = []
-    for story, state in enumerate(states):
-        is_old = story < len(old_states)
-        told = tuple([(number, numbered(outcome, numbers)) for number, outcome in outcomes[story]])
-        cursor = fold.keeps_cursor(state[3], is_old)
-        old, shared = (olds[story], shares[story]) if is_old else (-1, -1)
-        entries.append((trees[story], old, shared, cursor, fold.is_ruled(state), told))
-    return (fold.frame.words, fold.cell is not None, tuple(entries))
+class Stories:
+    """The states behind all stories of a place, in their order, and what calls do there next."""
 
+    def __init__(self, fold):
+        self.fold = fold
+        self.states, self.outcomes = [], []
+        if fold.cell is not None:
+            self.states, self.outcomes = played_rows(fold, fold.old_start())
+        self.first_new = len(self.states)
+        # The root is never made.
+        if not fold.root:
+            states, outcomes = played_rows(fold, fold.new_start())
+            self.states = self.states + states
+            self.outcomes = self.outcomes + outcomes
+        self.marks = [fold.tree_mark(state) for state in self.states]
+        self.trees = firsts(self.marks)
 
-def old_and_shared(fold, states, trees):
-    """For the states of a part that was there at first: the indexes of the first ones with these places."""
-    if len(states) == 0:
-        return [], []
-    olds = firsts([fold.fields_below(state[3], OLD, -1) for state in states])
-    steady = steady_rows(fold, trees)
-    marks = [fold.shared_mark(state, steady[row]) for row, state in enumerate(states)]
-    shares = [-1 if mark is None else index for mark, index in zip(marks, firsts(marks))]
-    return olds, shares
+    def table(self):
+        """The table of the place."""
+        fold = self.fold
+        olds, shares = self.old_and_shared()
+        numbers = {}
+        entries = []
+        for story, state in enumerate(self.states):
+            is_old = story < self.first_new
+            told = tuple([(number, numbered(outcome, numbers)) for number, outcome in self.outcomes[story]])
+            cursor = fold.keeps_cursor(state[3], is_old)
+            old, shared = (olds[story], shares[story]) if is_old else (-1, -1)
+            entries.append((self.trees[story], old, shared, cursor, fold.is_ruled(state), told))
+        return (fold.frame.words, fold.cell is not None, tuple(entries))
+
+    def old_and_shared(self):
+        """For the states of a part that was there at first: the indexes of the first ones with these places."""
+        fold = self.fold
+        states = self.states[:self.first_new]
+        if len(states) == 0:
+            return [], []
+        olds = firsts([fold.fields_below(state[3], OLD, -1) for state in states])
+        steady = steady_rows(fold, self.trees)
+        marks = [fold.shared_mark(state, steady[row]) for row, state in enumerate(states)]
+        shares = [-1 if mark is None else index for mark, index in zip(marks, firsts(marks))]
+        return olds, shares
 
 
 class Ends:

@@ -1,9 +1,10 @@
 """Judging: whether what a question asks holds for all trees of a rule and all words."""
 
-from treeshed.closing import MOST_JOINTS, MOST_TABLES, Closing, bottoms_of, cells_over, check_asked, let_cells
+from treeshed.checking import are_sets, closed_roots, may_be_judged
+from treeshed.closing import Closing, check_asked
 from treeshed.copies import as_tuples
-from treeshed.errors import BadRelation, BadValues, TooMany
-from treeshed.folding import Fold, Folder, table_of
+from treeshed.errors import TooMany
+from treeshed.folding import Fold, Folder
 from treeshed.known import known_routine
 from treeshed.least import tree_and_pair
 from treeshed.questions import ASPECTS, Question, relation_of, unlike_on
@@ -14,9 +15,6 @@ from treeshed.words import is_word
 
 HOLDING = (None, "not asked")
 JUDGED_VALUES = (1, 2)
-SETS = ((0,), (1,), (0, 1))
-# The sets that a relation does not name.
-UNNAMED_SETS = {"same": (0, 1), "within": (0,), "around": (1,), "apart": ()}
 
 
 class Alike:
@@ -45,81 +43,36 @@ class Unlike:
 def judge(question, rule, relation, values):
     """An Alike, or an Unlike with as few places as any has."""
     check_asked(relation, values)
-    closing = Closing(question, rule, relation, values)
+    closing = Closing(Folder(question, rule), relation, values)
     for root in closing.roots():
         how = verdict(closing.fold_of(root))
         if how not in HOLDING:
             tree, pair = tree_and_pair(root, rule, closing.value_list)
             return Unlike(question, rule, relation, tree, pair, how)
-    tables = (closing.zero.all_tables(), closing.one.all_tables(), closing.both.all_tables())
-    return Alike(question, rule, relation, closing.value_list, tables)
+    return Alike(question, rule, relation, closing.value_list, closing.all_sets())
 
 
 def is_alike(paper):
     """Whether the tables of an Alike, with any fields, show what it tells."""
-    if not isinstance(paper.question, Question) or not isinstance(paper.rule, Rule):
+    question, rule = paper.question, paper.rule
+    if not isinstance(question, Question) or not isinstance(rule, Rule):
         return False
-    if not may_be_judged(paper.relation, paper.value_list) or not are_tables(paper):
+
+    def is_told(value, words):
+        return is_table(question, value) and value[0] == words
+
+    if not may_be_judged(paper.relation, paper.value_list) or not are_sets(paper.relation, paper.tables, is_told):
         return False
-    return is_closed(paper)
+    folder = Folder(question, rule)
+    roots = closed_roots(folder, paper.relation, paper.value_list, paper.tables)
+    return roots is not None and all_hold(folder, roots)
 
 
-def may_be_judged(relation, value_list):
-    """Whether judge takes these two, any values, without an error."""
-    if not isinstance(value_list, tuple):
-        return False
-    try:
-        check_asked(relation, value_list)
-    except (BadRelation, BadValues):
-        return False
-    return True
-
-
-def are_tables(paper):
-    """Whether the tables of a paper are three tuples of tables of the words of their sets, and not too many."""
-    tables = paper.tables
-    if not isinstance(tables, tuple) or len(tables) != 3:
-        return False
-    for number, words in enumerate(SETS):
-        if not isinstance(tables[number], tuple) or len(tables[number]) > MOST_TABLES:
+def all_hold(folder, roots):
+    """Whether all holds, or is not asked, at each of these roots, pairs of a cell and the tables below."""
+    for cell, lower in roots:
+        if verdict(Fold(folder, (0, 1), cell, lower, True)) not in HOLDING:
             return False
-        if number in UNNAMED_SETS[paper.relation] and len(tables[number]) > 0:
-            return False
-        if not all([is_table(paper.question, table) and table[0] == words for table in tables[number]]):
-            return False
-    return len(tables[0]) * len(tables[1]) <= MOST_JOINTS
-
-
-def is_closed(paper):
-    """Whether the tables of a paper have among them each one that they ask, and all holds at each root."""
-    folder = Folder(paper.question, paper.rule)
-    found = [{table: folder.part_of(table) for table in tables} for tables in paper.tables]
-    zero, one, both = [list(told.values()) for told in found]
-    bottoms = bottoms_of(paper.relation, zero, one)
-    cells = let_cells(paper.rule, paper.value_list, False)
-    for number, lower in ((0, [()]), (1, [()]), (2, bottoms)):
-        named = number not in UNNAMED_SETS[paper.relation]
-        if named and not has_what_it_asks(folder, SETS[number], lower, found[number], cells):
-            return False
-    cells = let_cells(paper.rule, paper.value_list, True)
-    return holds_at_roots(folder, bottoms + [(part,) for part in both], cells)
-
-
-def has_what_it_asks(folder, words, bottoms, found, cells):
-    """Whether the tables found have among them each one that is asked over these bottoms and over themselves."""
-    for lower in bottoms + [(part,) for part in list(found.values())]:
-        for cell in cells_over(lower, cells):
-            if table_of(Fold(folder, words, cell, lower)) not in found:
-                return False
-    return True
-
-
-def holds_at_roots(folder, lowers, cells):
-    """Whether all holds, or is not asked, at each root over these tuples of tables."""
-    for lower in lowers:
-        for cell in cells_over(lower, cells):
-            if verdict(Fold(folder, (0, 1), cell, lower, True)) not in HOLDING:
-                return False
     return True
 
 

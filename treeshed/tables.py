@@ -1,6 +1,6 @@
 """Tables: what the way above a part can learn of it."""
 
-from treeshed.folding import Ends, Fold, Folder, table_of
+from treeshed.folding import Ends, Fold, Folder
 from treeshed.questions import stories_of
 from treeshed.words import is_integer, is_value
 
@@ -21,7 +21,7 @@ def is_let(rule, cell, there, root):
 def longer(question, rule, words, cell, below):
     """The table of a part, told by its cell and the tables below."""
     folder = Folder(question, rule)
-    return table_of(Fold(folder, words, cell, [folder.part_of(table) for table in below]))
+    return folder.told_over(words, cell, [folder.part_of(table) for table in below])
 
 
 def whole(question, rule, cell, below):

@@ -4,7 +4,7 @@ from tests.helpers import KINDS
 from treeshed.books import known_deeds
 from treeshed.questions import Question
 from treeshed.routines import Routine
-from treeshed.rules import Rule, kind_of
+from treeshed.rules import Rule, kind_of, known_rule
 from treeshed.trees import Tree
 
 RETURNS = ("yes", "no", "value", "node", "p")
@@ -137,3 +137,61 @@ def some_question(source, aspects, share=0.2):
     if one and source.random() < share:
         where = {source.choice(one): source.choice(["yes", "no", "none", "is", "at", "misuse"])}
     return Question(some_calls(source, many), one, other, aspects, where)
+
+
+def some_part(source, letters, kinds, others, depth, values=(1, 2, 3)):
+    """Rows of a part with one of these kinds at its top, those at other places below it; None if none is found."""
+    leaves = [kind for kind in kinds if kind[2] == 0]
+    for kept, flag, children in source.sample(leaves if depth == 0 else kinds, len(leaves if depth == 0 else kinds)):
+        rows = [("", source.choice(values) if kept else None, flag)]
+        many = children if children < 2 else source.randint(2, min(3, len(letters)))
+        for letter in source.sample(letters, many):
+            part = some_part(source, letters, others, others, depth - 1, values)
+            if part is None:
+                rows = None
+                break
+            rows.extend((letter + place, value, told) for place, value, told in part)
+        if rows is not None:
+            return rows
+    return None
+
+
+def tree_of(source, rule, letters, depth=3):
+    """A tree of the rule, None if none is found."""
+    rows = some_part(source, letters, list(rule.root), list(rule.others), depth)
+    return None if rows is None else Tree(letters, rows)
+
+
+def side_of(source, rule, tree, changes=2):
+    """A tree of the rule that is made of another one by growing some parts anew, or with one more or less."""
+    for _ in range(source.randint(0, changes)):
+        top = source.choice([row[0] for row in tree.rows])
+        chance = source.random()
+        if chance < 0.3:
+            top = top + source.choice(tree.letters)
+        rows = [row for row in tree.rows if not row[0].startswith(top)]
+        if chance < 0.8:
+            kinds = list(rule.others if top else rule.root)
+            part = some_part(source, tree.letters, kinds, list(rule.others), source.randint(0, 2))
+            rows += [(top + place, value, flag) for place, value, flag in part or ()]
+        if rows and rule.keeps(Tree(tree.letters, rows)):
+            tree = Tree(tree.letters, rows)
+    return tree
+
+
+def three_of(source, rule, letters):
+    """Three trees of the rule, two of them mostly sides of the first one; None if none are found."""
+    base = tree_of(source, rule, letters, source.randint(0, 3))
+    if base is None:
+        return None
+    if source.random() < 0.1:
+        return base, tree_of(source, rule, letters, 2) or base, tree_of(source, rule, letters, 1) or base
+    one = side_of(source, rule, base)
+    return base, one, side_of(source, rule, one if source.random() < 0.3 else base)
+
+
+def rule_of_few(source, least=3):
+    """A rule of a few kinds, or a known one."""
+    if source.random() < 0.4:
+        return known_rule(source.choice(["plain", "joined", "bare", "free"]))
+    return Rule(source.sample(KINDS, source.randint(least, 8)), source.sample(KINDS, source.randint(least, 8)))

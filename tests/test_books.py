@@ -33,6 +33,14 @@ TEXTS = {
     "longest": "down:\n    if marked:\n        keep\nturn:\n    if marked:\n        keep\n    return p",
 }
 
+# A routine that makes very many tables.
+WIDE = Routine.read(
+    "up:\n    if not own:\n        if next:\n            cut\n        if next:\n            flag = true\n"
+    "            unmark\n    if flag:\n        if others == 1:\n            stop\n            if next:\n"
+    "                cut\n        else:\n            return node\n        if next:\n            mark\n"
+    "            stop\n        else:\n            unmark\n            if others > 1:\n                unmark\n"
+    "            else:\n                flag = false\n                return value\n    flag = true")
+
 
 def on_map(name, words, word, value):
     """What a deed answers on a dict from words to values, which it changes."""
@@ -300,17 +308,10 @@ class BookedTest(unittest.TestCase):
 
 
 class TooManyTest(unittest.TestCase):
-    WIDE = Routine.read(
-        "up:\n    if not own:\n        if next:\n            cut\n        if next:\n            flag = true\n"
-        "            unmark\n    if flag:\n        if others == 1:\n            stop\n            if next:\n"
-        "                cut\n        else:\n            return node\n        if next:\n            mark\n"
-        "            stop\n        else:\n            unmark\n            if others > 1:\n                unmark\n"
-        "            else:\n                flag = false\n                return value\n    flag = true")
-
     def test_what_judge_raises_is_raised(self):
         fields = {"what": "tables", "many": 1001, "most": 1000}
-        check_raises(self, TooMany, fields, pairs, self.WIDE, self.WIDE, FREE, "same", False, (1, 2, 3, 4))
-        deeds = {"has": known_deeds()["has"], "wide": self.WIDE}
+        check_raises(self, TooMany, fields, pairs, WIDE, WIDE, FREE, "same", False, (1, 2, 3, 4))
+        deeds = {"has": known_deeds()["has"], "wide": WIDE}
         check_raises(self, TooMany, fields, booked, deeds, FREE, "same")
 
 

@@ -66,7 +66,10 @@ def is_plan_right(right):
         return False
     cases = {case: True for case in right.cases}
     caser = Caser(right.plan, right.rule)
-    return all([is_closed_over(caser, cases, total) for total in all_sums(list(cases))])
+    for total in all_sums(list(cases)):
+        if not is_closed_over(caser, cases, total):
+            return False
+    return True
 
 
 def is_case(value):

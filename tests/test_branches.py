@@ -4,7 +4,7 @@ import itertools
 import unittest
 import unittest.mock
 
-from tests.drawing import some_routine, some_tree, some_word, tree_of
+from tests.drawing import some_routine, some_word, tree_of
 from tests.helpers import alike, any_values, check_raises, long_rows, seeded, shuffled, some_letters
 from tests.merges import some_changed_map, some_map, some_plan
 from tests.modelled import Model, Refused
@@ -394,7 +394,7 @@ class MapsTest(unittest.TestCase):
         for _ in range(150):
             plan = Plan("bare", source.choice(["take", "take", "clash"]), source.choice(["clash", "one", "other"]), True)
             words = some_map(source, "ab", 4)
-            branches = Branches(PLAIN.tree_of("ab", list(words.items())), FIVE, source.choice([PLAIN]),
+            branches = Branches(PLAIN.tree_of("ab", list(words.items())), FIVE, PLAIN,
                                 source.choice([plan, with_flags(plan, PLAIN)]), known_book())
             maps, heads = {0: words}, {"main": 0}
             for _ in range(source.randint(3, 14)):
@@ -596,14 +596,6 @@ class ErrorTest(unittest.TestCase):
             self.assertEqual(branches.undo("main", 1), 3)
 
     def test_a_take_that_breaks_the_rule(self):
-        branches = Branches(Tree.of("ab", [("a", 1)]), FIVE, PLAIN, known_plan("back"), known_book())
-        branches.fork("x", "main")
-        branches.do("x", "strike", "a", 1)
-        branches.do("main", "put", "ab", 1)
-        branches.do("main", "strike", "a", 1)
-        before = self.told(branches)
-        branches.do("x", "put", "b", 1)
-        branches.do("x", "strike", "b", 1)
         untidy = Branches(Tree.of("ab", [("a", 1), ("aa", 1), ("ab", 1)]), FIVE, PLAIN, known_plan("back"), known_book())
         untidy.fork("x", "main")
         for name, word in (("x", "aa"), ("main", "ab")):
@@ -723,4 +715,3 @@ class ErrorTest(unittest.TestCase):
                 if not model.branches:
                     break
             self.assertEqual(self.told(two[0]), self.told(two[1]))
-        self.assertGreater(some_tree(source, "ab", 3).size, 2)

@@ -46,7 +46,35 @@ INTERFACE = {
     "plans": {
         "Plan": ["gone", "alike", "unlike", "tidy", "flags"], "known_plan": ["name"], "with_flags": ["plan", "rule"],
     },
+    "merging": {
+        "merged": ["plan", "base", "one", "other"], "Merged": ["tree", "taken"], "Clash": ["place"],
+        "due": ["base", "one", "other", "word"], "judged_merge": ["plan", "rule", "base", "one", "other"],
+    },
+    "triples": {
+        "case_of": ["plan", "rule", "base", "one", "other", "place"], "empty_sum": [], "added": ["total", "case"],
+        "closed": ["plan", "rule", "total", "cells", "root"],
+    },
+    "planned": {
+        "judge_plan": ["plan", "rule"], "PlanRight": ["plan", "rule", "cases"],
+        "PlanWrong": ["plan", "rule", "base", "one", "other", "how"], "is_plan_right": ["right"],
+        "is_plan_wrong": ["wrong"], "needless": ["plan", "rule"],
+    },
+    "forks": {
+        "fork_question": ["first", "second", "alike"], "fork_on": ["plan", "question", "tree", "pair"],
+        "fork_longer": ["plan", "question", "rule", "words", "cell", "below"],
+        "fork_whole": ["plan", "question", "rule", "cell", "below"],
+        "judge_forks": ["plan", "first", "second", "rule", "relation", "alike", "values"],
+        "Forks": ["plan", "first", "second", "rule", "relation", "alike", "value_list", "rows", "tables"],
+        "is_forks": ["paper"],
+    },
+    "versions": {
+        "Versions": ["tree"], "worst_new": ["routine", "rule", "letters"], "most_new": ["routine", "rule", "letters"],
+    },
+    "branches": {"Branches": ["tree", "deeds", "rule", "plan", "book"]},
+    "groves": {"Grove": ["letters", "rules", "root"]},
+    "sheds": {"Shed": ["tree", "deeds", "rule", "plan", "book"]},
 }
+DEFAULTS = {("questions", "Question"): [None], ("plans", "Plan"): [None], ("triples", "closed"): [False]}
 METHODS = {
     ("trees", "Tree"): {
         "__eq__": ["other"], "has": ["place"], "value_of": ["word"], "row": ["place"], "below": ["place"],
@@ -61,6 +89,27 @@ METHODS = {
         "__eq__": ["other"], "told_rows": [], "commutes": ["first", "kind", "second", "later", "relation", "alike"],
     },
     ("plans", "Plan"): {"__eq__": ["other"]},
+    ("versions", "Versions"): {
+        "call": ["number", "routine", "word", "value"], "merge": ["plan", "base", "one", "other"], "tree_at": ["number"],
+        "new_places": ["number"], "shared_places": ["one", "other"], "stored": [], "kept_versions": [],
+        "forget": ["number"],
+    },
+    ("branches", "Branches"): {
+        "deeds": [], "all_names": [], "head_of": ["name"], "base_of": ["one", "other"], "tree_at": ["name"],
+        "history_of": ["name"], "shared_places": ["one", "other"], "stored": [], "kept_versions": [],
+        "version_tree": ["number"], "new_places": ["number"], "fork": ["name", "source"],
+        "do": ["name", "deed", "word", "value"], "take": ["name", "other"], "undo": ["name", "number"], "drop": ["name"],
+    },
+    ("groves", "Grove"): {
+        "rules": [], "has": ["place"], "value_of": ["word"], "row": ["place"], "below": ["place"], "unfolded": [],
+        "begins": ["word"], "rank": ["word"], "word_of": ["rank"], "call": ["routine", "word", "value"],
+        "same": ["other"], "differing": ["other"], "merged": ["plan", "one", "other"],
+    },
+    ("sheds", "Shed"): {
+        "hold": ["label", "name", "place"], "let_go": ["label"], "holds": [], "log": [], "changes": ["name"],
+        "replayed": ["tree", "deeds", "rule", "plan", "book", "log"], "fork": ["name", "source"],
+        "do": ["name", "deed", "word", "value"], "take": ["name", "other"], "undo": ["name", "number"], "drop": ["name"],
+    },
 }
 BUILTIN_METHODS = """append clear copy count endswith extend find get index insert isalnum isalpha isdigit islower
     isspace isupper items join keys ljust lower lstrip partition pop remove replace reverse rfind rjust rpartition
@@ -119,6 +168,18 @@ class InterfaceTest(unittest.TestCase):
                     node = [inner for inner in node.body if getattr(inner, "name", "") == "__init__"][0]
                     arguments = ["self"] + arguments
                 self.assertEqual(self.arguments(node), arguments, name)
+
+    def test_default_values(self):
+        for module, names in INTERFACE.items():
+            for name, node in self.defined(module).items():
+                if name in names:
+                    if isinstance(node, ast.ClassDef):
+                        node = [inner for inner in node.body if getattr(inner, "name", "") == "__init__"][0]
+                    told = [ast.literal_eval(value) for value in node.args.defaults]
+                    self.assertEqual(told, DEFAULTS.get((module, name), []), name)
+
+    def test_a_shed_is_a_class_below_branches(self):
+        self.assertEqual([base.id for base in self.defined("sheds")["Shed"].bases], ["Branches"])
 
     def test_methods_are_defined_in_their_classes(self):
         for (module, name), methods in METHODS.items():
@@ -290,6 +351,34 @@ class LanguageTest(unittest.TestCase):
             for name in free:
                 done.append(name)
                 del imports[name]
+
+    def test_stars_in_calls_stand_before_names_and_attributes(self):
+        for path, _, tree in files():
+            for node in ast.walk(tree):
+                if isinstance(node, ast.Starred):
+                    self.assertIsInstance(node.value, (ast.Name, ast.Attribute, ast.List, ast.Tuple), path)
+
+    def test_no_two_lambdas_stand_on_one_line(self):
+        for path, _, tree in files():
+            lines = [node.lineno for node in ast.walk(tree) if isinstance(node, ast.Lambda)]
+            self.assertEqual(len(lines), len(set(lines)), path)
+
+    def test_statements(self):
+        barred = (ast.Global, ast.AsyncFor, ast.AsyncWith, ast.Yield, ast.YieldFrom, ast.Import, ast.Match)
+        for path, _, tree in files():
+            for node in ast.walk(tree):
+                self.assertNotIsInstance(node, barred, path)
+
+    def test_no_loop_changes_what_it_goes_over(self):
+        changing = ("append", "clear", "extend", "insert", "pop", "remove", "reverse", "setdefault", "update")
+        for path, _, tree in files():
+            for loop in [node for node in ast.walk(tree) if isinstance(node, ast.For)]:
+                over = ast.unparse(loop.iter)
+                for node in [inner for told in loop.body for inner in ast.walk(told)]:
+                    if isinstance(node, ast.Call) and getattr(node.func, "attr", "") in changing:
+                        self.assertNotEqual(ast.unparse(node.func.value), over, path)
+                    if isinstance(node, (ast.Subscript, ast.Attribute)) and not isinstance(node.ctx, ast.Load):
+                        self.assertNotEqual(ast.unparse(node.value), over, path)
 
     def test_no_generator_expression_where_a_list_is_asked_for(self):
         for path, _, tree in files():

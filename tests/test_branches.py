@@ -107,6 +107,7 @@ def check_told(test, branches, model):
             test.assertTrue(alike(branches.base_of(one, other), model.bases[frozenset([one, other])]))
     for number, root in model.record.roots.items():
         test.assertEqual(part(branches.version_tree(number)), root.part())
+        test.assertTrue(branches.rule.keeps(branches.version_tree(number)))
         test.assertTrue(alike(branches.new_places(number), model.record.fresh[number]))
 
 

@@ -132,8 +132,8 @@ class SmallTest(unittest.TestCase):
         source = seeded(272)
         cut, made = 0, 0
         for _ in range(900):
-            letters = some_letters(source, source.choice([2, 3]))
-            tree = some_tree(source, letters, source.randint(1, 10))
+            letters = some_letters(source, source.choice([2, 3, 5]))
+            tree = some_tree(source, letters, source.randint(1, 12))
             grove = folded(source, tree, source.random())
             before = grove.rules
             routine = some_routine(source) if source.random() < 0.5 else source.choice(list(DEEDS.values()))
@@ -149,6 +149,16 @@ class SmallTest(unittest.TestCase):
             cut, made = cut + (told.size < tree.size), made + (told.size > tree.size)
             self.check_names(grove, behind, word)
         self.assertGreater(min(cut, made), 15)
+
+    def test_calls_beside_many_children(self):
+        count = Routine.read("turn:\n    if others > 1:\n        return yes\n    if others == 1:\n        return no")
+        rules = {"A": LEAF, "B": (None, False, {letter: "A" for letter in "abcde"}), "C": (1, False, {"a": "B", "b": "A"})}
+        for root, word, answer in (("B", "", "yes"), ("B", "f", "yes"), ("C", "", "yes"), ("C", "c", "yes"), ("A", "", None),
+                                   ("C", "ab", None), ("C", "a", "yes")):
+            self.assertEqual(Grove("abcdef", rules, root).call(count, word, 1)[0], answer)
+        stop = Routine.read("down:\n    stop\n" + count.text())
+        for root, word, answer in (("B", "a", "yes"), ("C", "b", "no"), ("C", "e", "yes")):
+            self.assertEqual(Grove("abcdef", rules, root).call(stop, word, 1)[0], answer)
 
     def check_names(self, grove, behind, word):
         """Checks the names of a grove that a call has left."""

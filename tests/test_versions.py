@@ -351,6 +351,9 @@ class WorstTest(unittest.TestCase):
         makes = Routine.read("down:\n    if not next:\n        make\n    stop")
         self.assertEqual([worst_new(makes, PLAIN, letters) for letters in (0, 1, 2, 9)], [0, 2, 2, 2])
         self.assertEqual(most_new(makes, PLAIN, 2)[0].below(""), "")
+        # A child that was there, and that the call does not go into, is not.
+        flags = Routine.read("down:\n    flag = true\n    stop")
+        self.assertEqual([worst_new(flags, rule, letters) for letters in (0, 1, 2)], [0, 1, 1])
         # A made place that ends as the one ahead would be: it was missing, so it is new.
         self.assertEqual(worst_new(Routine.read("down:\n    if not next:\n        make"), PLAIN, 3), 4)
 

@@ -1,8 +1,10 @@
 """Promises 1, 2 and 38: what the document says of the whole program."""
 
+import doctest
 import importlib
 import inspect
 import itertools
+import pathlib
 import unittest
 
 from tests.helpers import alike, any_values, tupled
@@ -114,6 +116,17 @@ class OverviewTest(unittest.TestCase):
         branches = some_branches(Branches)
         self.assertEqual([branches.shared_places("main", "x"), branches.stored(), branches.take("main", "x")], [2, 6, True])
         self.assertEqual(branches.tree_at("main").word_items(), (("a", 1), ("b", 1), ("ba", 2)))
+
+
+class ReadmeTest(unittest.TestCase):
+    def test_its_sessions(self):
+        text = (pathlib.Path(__file__).resolve().parent.parent / "README.md").read_text("utf-8")
+        told = "\n\n".join(text.split("```\n")[1::2])
+        session = doctest.DocTestParser().get_doctest(told, {}, "README.md", None, 0)
+        self.assertGreater(len(session.examples), 20)
+        shown = []
+        runner = doctest.DocTestRunner(optionflags=doctest.IGNORE_EXCEPTION_DETAIL)
+        self.assertEqual((runner.run(session, out=shown.append).failed, shown), (0, []))
 
 
 class NamesTest(unittest.TestCase):

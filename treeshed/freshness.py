@@ -50,7 +50,6 @@ class Ways:
     """The one-word tables of a routine in a rule, and the parts that have most new places."""
 
     def __init__(self, routine, rule):
-        self.rule = rule
         self.folder = Folder(Question([(routine, 0, 1)], [0], [], []), rule)
         self.ground = Ground(self.folder, SHOWN_VALUES)
         self.tables = self.ground.closed_set(WORDS, True, [()])

@@ -67,7 +67,8 @@ class ForkFolder(Folder):
             return self.merge_on(stories, base, one, other)
         if step == "clash":
             return CLASH
-        taken = one if step == "one" else other if step == "other" else None
+        # With "nothing" both are missing.
+        taken = one if step == "one" else other
         return NONE if taken is None else ("as", stories.trees[taken])
 
     def merge_on(self, stories, base, one, other):

@@ -2,7 +2,7 @@
 
 from treeshed.errors import BadRank, BadWord, NoPlace, OtherLetters, TooMany
 from treeshed.merging import Clash
-from treeshed.naming import check_height, check_rules, check_size, free_names, names_below
+from treeshed.naming import check_height, check_rules, free_names, names_below
 from treeshed.parting import Braid, Differing, Parts
 from treeshed.plays import check_word_and_value
 from treeshed.trees import MOST_PLACES, Tree
@@ -111,8 +111,6 @@ class Grove:
         live = LiveWay(self._told, self.root, word)
         answer = walk(live, routine, word, value)
         kept = names_below(self._told, live.names_beside())
-        many = len(live.tops) + len(kept)
-        check_size(many)
         names = free_names(len(live.tops), kept)
         rules = live.rules_for(names)
         for name in kept:
@@ -137,7 +135,6 @@ class Grove:
         if start in braid.clashes:
             return Clash(braid.clashes[start])
         numbers = list(parts.numbers_below(braid.made[start]))
-        check_size(len(numbers))
         name_of = dict(zip(numbers, free_names(len(numbers), [])))
         rules = {}
         for number in numbers:

@@ -27,17 +27,12 @@ def is_part_rule(value, letters, rules):
         and is_part_name(parts[letter]) and parts[letter] in rules for letter in parts])
 
 
-def check_size(many):
-    """Raises TooMany if a grove may not have so many rules."""
-    if not 1 <= many <= MOST_RULES:
-        raise TooMany("rules", many, MOST_RULES)
-
-
 def check_rules(letters, rules, root):
     """Raises an error if these are no letters and rules of a grove; a list of the names below the root, lower first."""
     if not is_letters(letters):
         raise BadLetters(letters)
-    check_size(len(rules))
+    if not 1 <= len(rules) <= MOST_RULES:
+        raise TooMany("rules", len(rules), MOST_RULES)
     for name in rules:
         if not is_part_name(name) or not is_part_rule(rules[name], letters, rules):
             raise BadRule(name)

@@ -133,9 +133,8 @@ class Braid:
             self.clashes[key] = ""
         elif step == "on":
             self.merge_on(key)
-        elif step == "nothing":
-            self.made[key] = None
         else:
+            # With "nothing" both are missing.
             self.made[key] = key[2] if step == "one" else key[3]
 
     def merge_on(self, key):

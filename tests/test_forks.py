@@ -438,13 +438,18 @@ class IsForksTest(unittest.TestCase):
             self.assertIs(self.bent(fields, 8, tables), True)
 
     def test_other_rows_that_are_right(self):
-        fields = self.fields("apart")
+        fields, found = self.fields("apart"), 0
         for at, row in enumerate(fields[7]):
             more = Tree("dabc", [("", row[3].rows[0][1], False)] + [
                 told for told in row[3].rows[1:]] + ([("d", 1, False)] if not row[3].has("d") else []))
             if fork_on(SETS, fork_question(*fields[1:3], True), more, row[4]) == row[:3]:
                 told = fields[7][:at] + (row[:3] + (more, list(row[4])),) + fields[7][at + 1:]
                 self.assertIs(self.bent(fields, 7, told), True)
+                # A triple stands once, also with another tree.
+                told = fields[7][:at + 1] + (row[:3] + (more, row[4]),) + fields[7][at + 1:]
+                self.assertIs(self.bent(fields, 7, told), False)
+                found += 1
+        self.assertGreater(found, 0)
 
     def test_rows_bent(self):
         fields = self.fields("apart")

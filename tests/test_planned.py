@@ -156,6 +156,10 @@ class JudgePlanTest(unittest.TestCase):
         source = seeded(224)
         plans = [(SETS, PLAIN), (BACK, PLAIN), (known_plan("late"), PLAIN), (SETS, JOINED)]
         plans += [(some_plan(source), Rule(source.sample(KINDS, 4), source.sample(KINDS, 4))) for _ in range(5)]
+        # Rules of ends alone: each three values at one place show cases that nothing else shows.
+        for others in ([(True, False, 0)], [(True, False, 0), (False, False, 0)], [(True, True, 0), (True, False, 0)]):
+            for root in ([(True, False, 0), (False, False, 0)], [(True, False, 2)], [(False, False, 1), (True, True, 1)]):
+                plans += [(plan, Rule(root, others)) for plan in (SETS, CAREFUL, LATE, BACK, some_plan(source))]
         for plan, rule in plans:
             cases, _, roots = all_closed(plan, rule)
             paper = judge_plan(plan, rule)
@@ -361,6 +365,8 @@ class PlanRightTest(unittest.TestCase):
         # Cases that no three parts have: nothing is there, and yet alike, so no new case comes from them.
         none = (False, False, False, True, True, False, False, False, "none")
         self.assertIs(is_plan_right(PlanRight(SETS, PLAIN, few + (none,))), True)
+        for outcome in ("right", "None", "", "nothing", None, 0, ("none",)):
+            self.assertIs(is_plan_right(PlanRight(SETS, PLAIN, few + (none[:8] + (outcome,),))), False)
 
     def test_a_wrong_root(self):
         cases, _, _ = all_closed(BACK, PLAIN)

@@ -30,8 +30,8 @@ def sum_with(total, case):
 
 def is_same(cell, base, all_same):
     """Whether a side's part and the base's are the same, told by their cells and the sum of what is below."""
-    if cell is None or base is None:
-        return cell is None and base is None
+    if cell is None:
+        return base is None
     return cell == base and all_same
 
 
@@ -89,7 +89,8 @@ class Caser:
             outcome = self.outcome_on(total, cells, root)
         elif step == "clash":
             outcome = "clash"
-        elif step == "nothing" or not (there[1] if step == "one" else there[2]):
+        elif not (there[1] if step == "one" else there[2]):
+            # With "nothing" both are missing.
             outcome = "none"
         elif one_same or other_same:
             outcome = "tree"

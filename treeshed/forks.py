@@ -144,7 +144,7 @@ def is_fork_table(question, value):
 
 def is_merge(value, many):
     """Whether any value tells what a merge makes of a part with so many stories."""
-    if not isinstance(value, tuple) or len(value) not in (1, 2) or not isinstance(value[0], str):
+    if not isinstance(value, tuple) or len(value) not in (1, 2):
         return False
     if len(value) == 1:
         return value[0] in MERGES

@@ -74,7 +74,7 @@ def is_plan_right(right):
 
 def is_case(value):
     """Whether any value is of the form of a case."""
-    if not isinstance(value, tuple) or len(value) != 9 or not isinstance(value[8], str):
+    if not isinstance(value, tuple) or len(value) != 9:
         return False
     return all([isinstance(told, bool) for told in value[:8]]) and value[8] in OUTCOMES
 
@@ -92,7 +92,7 @@ def is_plan_wrong(wrong):
     if not isinstance(wrong.plan, Plan) or not isinstance(wrong.rule, Rule):
         return False
     trees = (wrong.base, wrong.one, wrong.other)
-    if not all([isinstance(tree, Tree) for tree in trees]) or not isinstance(wrong.how, str):
+    if not all([isinstance(tree, Tree) for tree in trees]):
         return False
     if not wrong.base.letters == wrong.one.letters == wrong.other.letters:
         return False

@@ -53,6 +53,29 @@ def all_closed(plan, rule):
     return cases, sums, roots
 
 
+def fewest_places(plan, rule, cases, sums):
+    """How many places the least wrong root has, and the least one that clashes needlessly; None if there is none."""
+    many = {total: 0 if total == empty_sum() else 10 ** 6 for total in sums}
+    kinds = {root: rule.root if root else rule.others for root in (False, True)}
+    told = {(total, root): {(closed(plan, rule, total, cells, root), 3 - cells.count(None))
+                            for cells in let_cells(kinds[root], total[:3], root)}
+            for total in sums for root in (False, True)}
+    sum_of = {(total, case): added(total, case) for total in sums for case in cases}
+    before = None
+    while before != many:
+        before = dict(many)
+        least = {case: 10 ** 6 for case in cases}
+        for total in sums:
+            for case, tops in told[total, False]:
+                least[case] = min(least[case], many[total] + tops)
+        for (total, case), more in sum_of.items():
+            many[more] = min(many[more], many[total] + least[case])
+    wrong = [many[total] + 3 for total in sums for case, _ in told[total, True] if case[8] in ("words", "rule")]
+    clashing = [many[total] + 3 for total in sums for case, _ in told[total, True]
+                if case[8] == "clash" and not case[7]]
+    return min(wrong, default=None), min(clashing, default=None)
+
+
 def small_triples(rule, letters, total, values):
     """All three trees of the rule with so many places together."""
     trees = {size: all_trees(rule, letters, size, values) for size in range(1, total - 1)}
@@ -167,7 +190,25 @@ class JudgePlanTest(unittest.TestCase):
             self.assertIs(isinstance(paper, PlanWrong), len(wrong) > 0)
             if not wrong:
                 self.assertTrue(alike(paper.cases, tuple(sorted(cases))))
-            self.assertIs(needless(plan, rule) is None, not any(case[8] == "clash" and not case[7] for case in roots))
+            trees = needless(plan, rule)
+            self.assertIs(trees is None, not any(case[8] == "clash" and not case[7] for case in roots))
+
+    def test_the_fewest_places_by_closed_and_added_alone(self):
+        source = seeded(230)
+        many = {}
+        plans = [(BACK, PLAIN), (CAREFUL, PLAIN), (SETS, JOINED)]
+        for number in range(26):
+            rule = Rule(source.sample(KINDS, 3), source.sample(KINDS, source.choice([2, 3, 4])))
+            plans.append((some_plan(source), rule))
+        for plan, rule in plans:
+            cases, sums, _ = all_closed(plan, rule)
+            if len(sums) > 400:
+                continue
+            paper, trees = judge_plan(plan, rule), needless(plan, rule)
+            told = (sizes(trees_of(paper)) if isinstance(paper, PlanWrong) else None, trees and sizes(trees))
+            self.assertEqual(told, fewest_places(plan, rule, cases, sums))
+            many[told] = many.get(told, 0) + 1
+        self.assertGreater(len(many), 5)
 
     def test_no_small_trees_are_wrong_with_fewer_places(self):
         source = seeded(225)
@@ -377,6 +418,19 @@ class PlanRightTest(unittest.TestCase):
         self.assertFalse([case for case in roots if case[8] in ("words", "rule")])
         self.assertIs(is_plan_right(PlanRight(BACK, rule, list(cases))), True)
         self.assertIs(is_plan_right(PlanRight(BACK, PLAIN, list(cases))), False)
+
+    def test_the_root_has_flags_and_kinds_of_its_own(self):
+        cases = judge_plan(SETS, PLAIN).cases
+        self.assertIs(is_plan_right(PlanRight(with_flags_of(PLAIN), PLAIN, cases)), True)
+        for key in flags_of(PLAIN):
+            # A flag at the root is wrong there alone, one at other places asks for other cases.
+            plan = with_flags_of(PLAIN, key)
+            told = judge_plan(plan, PLAIN)
+            self.assertIs(is_plan_right(PlanRight(plan, PLAIN, cases)), isinstance(told, PlanRight), key)
+            self.assertIs(isinstance(told, PlanRight), key == (False, False, 0), key)
+        rule = Rule([kind for kind in PLAIN.root if kind != (True, False, 2)], PLAIN.others)
+        self.assertIs(is_plan_right(PlanRight(SETS, rule, cases)), False)
+        self.assertEqual(judge_plan(SETS, rule).how, "rule")
 
     def test_any_fields(self):
         cases = judge_plan(SETS, PLAIN).cases

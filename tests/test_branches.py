@@ -14,7 +14,8 @@ from tests.test_versions import part
 from treeshed.books import Book, known_book, known_deeds
 from treeshed.branches import Branches
 from treeshed.errors import (
-    BadDeed, BadName, BadValue, BadWord, BrokenRule, InTheWay, NoBranch, NoDeed, NoNumber, NoVersion, ShedError, TooMany,
+    BadDeed, BadName, BadValue, BadWord, BrokenRule, InTheWay, NoBranch, NoDeed, NoNumber, NoVersion, ShedError,
+    TooMany,
     UsedName)
 from treeshed.merging import Clash
 from treeshed.plans import Plan, known_plan, with_flags
@@ -393,7 +394,8 @@ class MapsTest(unittest.TestCase):
         source = seeded(263)
         clashes, taken = 0, 0
         for _ in range(150):
-            plan = Plan("bare", source.choice(["take", "take", "clash"]), source.choice(["clash", "one", "other"]), True)
+            plan = Plan("bare", source.choice(["take", "take", "clash"]), source.choice(["clash", "one", "other"]),
+                        True)
             words = some_map(source, "ab", 4)
             branches = Branches(PLAIN.tree_of("ab", list(words.items())), FIVE, PLAIN,
                                 source.choice([plan, with_flags(plan, PLAIN)]), known_book())
@@ -597,7 +599,8 @@ class ErrorTest(unittest.TestCase):
             self.assertEqual(branches.undo("main", 1), 3)
 
     def test_a_take_that_breaks_the_rule(self):
-        untidy = Branches(Tree.of("ab", [("a", 1), ("aa", 1), ("ab", 1)]), FIVE, PLAIN, known_plan("back"), known_book())
+        untidy = Branches(Tree.of("ab", [("a", 1), ("aa", 1), ("ab", 1)]), FIVE, PLAIN, known_plan("back"),
+                          known_book())
         untidy.fork("x", "main")
         for name, word in (("x", "aa"), ("main", "ab")):
             untidy.do(name, "strike", word, 1)

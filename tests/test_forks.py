@@ -6,7 +6,7 @@ import unittest.mock
 
 from tests import forked, oracle
 from tests.drawing import rule_of_few, some_pair, some_routine, some_tree
-from tests.helpers import KINDS, alike, any_values, check_raises, long_rows, seconds_of, seeded, some_letters, tupled
+from tests.helpers import alike, any_values, check_raises, long_rows, seconds_of, seeded, some_letters, tupled
 from tests.merges import some_exact_rule, some_plan
 from tests.test_books import WIDE
 from tests.test_judging import CUTS, cells_over
@@ -15,7 +15,7 @@ from treeshed.books import known_deeds
 from treeshed.errors import BadRelation, BadValues, BadWord, TooMany
 from treeshed.forks import Forks, fork_longer, fork_on, fork_question, fork_whole, is_forks, judge_forks
 from treeshed.plans import Plan, known_plan, with_flags
-from treeshed.questions import Question, relation_of, rows_of, stories_of
+from treeshed.questions import Question, relation_of, stories_of
 from treeshed.routines import Routine
 from treeshed.rules import Rule, all_trees, known_rule
 from treeshed.tables import is_table
@@ -343,7 +343,8 @@ class JudgeForksTest(unittest.TestCase):
         for first, second in itertools.product(("put", "set", "strike"), repeat=2):
             for relation in ("within", "around", "apart"):
                 plan = source.choice([SETS, LATE, Plan("bare", "clash", "one", True), with_flags(SETS, PLAIN)])
-                paper = judge_forks(plan, DEEDS[first], DEEDS[second], PLAIN, relation, source.random() < 0.5, (1, 2, 3))
+                paper = judge_forks(plan, DEEDS[first], DEEDS[second], PLAIN, relation, source.random() < 0.5,
+                                    (1, 2, 3))
                 self.assertEqual({row[2] for row in paper.rows}, {"both"})
                 self.assertEqual(len(paper.rows), 4)
 
@@ -374,7 +375,8 @@ class JudgeForksTest(unittest.TestCase):
         two = [SETS, DEEDS["put"], DEEDS["has"], PLAIN]
         for value in ["", "Same", "none", None, 0, ("same",)] + any_values():
             check_raises(self, BadRelation, {"relation": value}, judge_forks, *two, value, True, [])
-        for index, values in ((0, []), (0, [0]), (1, [1, 1]), (1, (2, 1)), (2, (1, 2, True)), (0, [None]), (1, [9, 10])):
+        for index, values in ((0, []), (0, [0]), (1, [1, 1]), (1, (2, 1)), (2, (1, 2, True)), (0, [None]),
+                              (1, [9, 10])):
             check_raises(self, BadValues, {"index": index}, judge_forks, *two, "same", True, values)
         for value in any_values():
             if not isinstance(value, int) or isinstance(value, bool) or not 2 <= value <= 9:
@@ -461,11 +463,13 @@ class IsForksTest(unittest.TestCase):
         for at, (kind, later, outcome, tree, pair) in enumerate(rows):
             self.assertIs(self.bent(fields, 7, rows[:at] + rows[at + 1:]), False)
             wrong = [
-                ("is", later, outcome, tree, pair), (kind, "none", outcome, tree, pair), (kind, later, "first", tree, pair),
+                ("is", later, outcome, tree, pair), (kind, "none", outcome, tree, pair),
+                (kind, later, "first", tree, pair),
                 (kind, later, outcome, tree, ("a", "a")),
                 (kind, later, outcome, tree, ("a", "aa")), (kind, later, outcome, tree, (pair[0], "z")),
                 (kind, later, outcome, tree, (pair[0], "b" * 201)), (kind, later, outcome, tree, pair + ("a",)),
-                (kind, later, outcome, tree.rows, pair), (kind, later, outcome, tree), (kind, later, outcome, tree, pair, 1),
+                (kind, later, outcome, tree.rows, pair), (kind, later, outcome, tree),
+                (kind, later, outcome, tree, pair, 1),
                 (kind, later, outcome, Tree("abcd", tree.rows + (("dd", None, False), ("d", 1, False))), pair),
                 (kind, later, outcome, Tree("abcd", tree.rows + (("d", 3, False),)), pair)]
             for row in wrong:
@@ -537,12 +541,14 @@ class IsForksTest(unittest.TestCase):
                      ((words, there, entries[:-1]), merges), ((words[:-1] + (2,), there, entries), merges)]
             wrong += [(table, last + (told,)) for told in (
                 ("as", len(entries)), ("as", -1), ("as", True), ("as", None), ("as",), ("as", 0, 0), ("none", 0),
-                ("clash", 0), ("other", 0), ("none", None), ("both",), (), ("",), "none", ("As", 0), (("as", 0),), (0,))]
+                ("clash", 0), ("other", 0), ("none", None), ("both",), (), ("",), "none", ("As", 0), (("as", 0),),
+                (0,))]
             for value in any_values():
                 wrong += [value, (value, merges), (table, value), (table, (value,) + merges[1:]),
                           (table, merges + (value,)), (table, last + (("as", value),))]
             for told in wrong:
-                if told not in ((table, last + (("as", 0),)), (table, last + (("as", 1),)), (table, last + (("as", 2),))):
+                if told not in ((table, last + (("as", 0),)), (table, last + (("as", 1),)),
+                                (table, last + (("as", 2),))):
                     tables = [list(told_part) for told_part in fields[8]]
                     tables[number].append(told)
                     self.assertIs(self.bent(fields, 8, tables), False, told)
@@ -589,7 +595,8 @@ class IsForksTest(unittest.TestCase):
         fields = self.fields("within")
         kinds = [Plan, Routine, Routine, Rule, str, bool, tuple, tuple, tuple]
         for number in range(9):
-            for value in any_values() + [fields[8][1], (fields[8],), fields[7], "around", (1, 1), (2, 1), (), 1, (1, 10)]:
+            for value in any_values() + [fields[8][1], (fields[8],), fields[7], "around", (1, 1), (2, 1), (), 1,
+                                         (1, 10)]:
                 if kinds[number] in (Plan, Routine, Rule) and isinstance(value, kinds[number]):
                     continue
                 if alike(tupled(value), fields[number]) or (number == 6 and alike(tupled(value), (1,))):

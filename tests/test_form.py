@@ -90,7 +90,8 @@ METHODS = {
     },
     ("plans", "Plan"): {"__eq__": ["other"]},
     ("versions", "Versions"): {
-        "call": ["number", "routine", "word", "value"], "merge": ["plan", "base", "one", "other"], "tree_at": ["number"],
+        "call": ["number", "routine", "word", "value"], "merge": ["plan", "base", "one", "other"],
+        "tree_at": ["number"],
         "new_places": ["number"], "shared_places": ["one", "other"], "stored": [], "kept_versions": [],
         "forget": ["number"],
     },
@@ -98,7 +99,8 @@ METHODS = {
         "deeds": [], "all_names": [], "head_of": ["name"], "base_of": ["one", "other"], "tree_at": ["name"],
         "history_of": ["name"], "shared_places": ["one", "other"], "stored": [], "kept_versions": [],
         "version_tree": ["number"], "new_places": ["number"], "fork": ["name", "source"],
-        "do": ["name", "deed", "word", "value"], "take": ["name", "other"], "undo": ["name", "number"], "drop": ["name"],
+        "do": ["name", "deed", "word", "value"], "take": ["name", "other"], "undo": ["name", "number"],
+        "drop": ["name"],
     },
     ("groves", "Grove"): {
         "rules": [], "has": ["place"], "value_of": ["word"], "row": ["place"], "below": ["place"], "unfolded": [],
@@ -108,7 +110,8 @@ METHODS = {
     ("sheds", "Shed"): {
         "hold": ["label", "name", "place"], "let_go": ["label"], "holds": [], "log": [], "changes": ["name"],
         "replayed": ["tree", "deeds", "rule", "plan", "book", "log"], "fork": ["name", "source"],
-        "do": ["name", "deed", "word", "value"], "take": ["name", "other"], "undo": ["name", "number"], "drop": ["name"],
+        "do": ["name", "deed", "word", "value"], "take": ["name", "other"], "undo": ["name", "number"],
+        "drop": ["name"],
     },
 }
 BUILTIN_METHODS = """append clear copy count endswith extend find get index insert isalnum isalpha isdigit islower

@@ -152,8 +152,10 @@ class SmallTest(unittest.TestCase):
 
     def test_calls_beside_many_children(self):
         count = Routine.read("turn:\n    if others > 1:\n        return yes\n    if others == 1:\n        return no")
-        rules = {"A": LEAF, "B": (None, False, {letter: "A" for letter in "abcde"}), "C": (1, False, {"a": "B", "b": "A"})}
-        for root, word, answer in (("B", "", "yes"), ("B", "f", "yes"), ("C", "", "yes"), ("C", "c", "yes"), ("A", "", None),
+        rules = {"A": LEAF, "B": (None, False, {letter: "A" for letter in "abcde"}),
+                 "C": (1, False, {"a": "B", "b": "A"})}
+        for root, word, answer in (("B", "", "yes"), ("B", "f", "yes"), ("C", "", "yes"), ("C", "c", "yes"),
+                                   ("A", "", None),
                                    ("C", "ab", None), ("C", "a", "yes")):
             self.assertEqual(Grove("abcdef", rules, root).call(count, word, 1)[0], answer)
         stop = Routine.read("down:\n    stop\n" + count.text())
@@ -394,7 +396,8 @@ class MadeOfTest(unittest.TestCase):
             (None, False), (None, False, {}, 1), (0, False, {}), (10, False, {}), (True, False, {}), ("1", False, {}),
             (None, 0, {}), (None, None, {}), (None, False, []), (None, False, None), (None, False, {"c": "A"}),
             (None, False, {"": "A"}), (None, False, {"ab": "A"}), (None, False, {None: "A"}), (None, False, {1: "A"}),
-            (None, False, {("a",): "A"}), (None, False, {"a": "X"}), (None, False, {"a": "a"}), (None, False, {"a": None}),
+            (None, False, {("a",): "A"}), (None, False, {"a": "X"}), (None, False, {"a": "a"}),
+            (None, False, {"a": None}),
             (None, False, {"a": ["A"]}), (None, False, {"a": {}}), (None, False, {"a": "A", "b": "X"}), None, 5, "AAA",
         ]
         for value in wrong + any_values():
@@ -463,7 +466,8 @@ class MadeOfTest(unittest.TestCase):
 
     def test_chains(self):
         for many in (200, 201, 202, 203):
-            rules = {name_of(number): (None, False, {"a": name_of(number - 1)} if number else {}) for number in range(many)}
+            rules = {name_of(number): (None, False,
+                                       {"a": name_of(number - 1)} if number else {}) for number in range(many)}
             if many <= 201:
                 grove = Grove("ab", rules, name_of(many - 1))
                 self.assertEqual([grove.size, grove.has("a" * (many - 1)), grove.has("a" * many)], [many, True, False])
@@ -484,7 +488,8 @@ class ErrorTest(unittest.TestCase):
     def grove(self):
         """A grove of six places and four words."""
         return Grove("ab", {"A": (1, False, {}), "B": (None, True, {"a": "A", "b": "A"}),
-                            "C": (None, False, {"b": "B", "a": "D"}), "D": (2, False, {"a": "E"}), "E": (3, True, {})}, "C")
+                            "C": (None, False, {"b": "B", "a": "D"}), "D": (2, False, {"a": "E"}), "E": (3, True, {})},
+                            "C")
 
     def test_any_values_as_places_and_words(self):
         grove, tree = self.grove(), self.grove().unfolded()

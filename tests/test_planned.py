@@ -162,9 +162,9 @@ class JudgePlanTest(unittest.TestCase):
     def test_drawn_plans_and_rules(self):
         source = seeded(222)
         many = {PlanRight: 0, PlanWrong: 0}
-        for _ in range(60):
+        for _ in range(40):
             many[self.check(source, some_plan(source), rule_of_few(source)).__class__] += 1
-        self.assertGreater(min(many.values()), 8)
+        self.assertGreater(min(many.values()), 5)
 
     def test_plans_as_asked_are_right(self):
         source = seeded(223)
@@ -181,7 +181,8 @@ class JudgePlanTest(unittest.TestCase):
         plans += [(some_plan(source), Rule(source.sample(KINDS, 4), source.sample(KINDS, 4))) for _ in range(5)]
         # Rules of ends alone: each three values at one place show cases that nothing else shows.
         for others in ([(True, False, 0)], [(True, False, 0), (False, False, 0)], [(True, True, 0), (True, False, 0)]):
-            for root in ([(True, False, 0), (False, False, 0)], [(True, False, 2)], [(False, False, 1), (True, True, 1)]):
+            for root in ([(True, False, 0), (False, False, 0)], [(True, False, 2)],
+                         [(False, False, 1), (True, True, 1)]):
                 plans += [(plan, Rule(root, others)) for plan in (SETS, CAREFUL, LATE, BACK, some_plan(source))]
         for plan, rule in plans:
             cases, _, roots = all_closed(plan, rule)
@@ -214,9 +215,9 @@ class JudgePlanTest(unittest.TestCase):
         source = seeded(225)
         least = {}
         rules = [PLAIN, FREE, BARE, JOINED]
-        for number in range(28):
+        for number in range(16):
             plan = some_plan(source)
-            rule = rules[number % 4] if number < 16 else Rule(source.sample(KINDS, 8), source.sample(KINDS, 5))
+            rule = rules[number % 4] if number < 8 else Rule(source.sample(KINDS, 8), source.sample(KINDS, 5))
             paper, trees = judge_plan(plan, rule), needless(plan, rule)
             few = 9 if isinstance(paper, PlanRight) else sizes(trees_of(paper))
             fewest = 9 if trees is None else sizes(trees)
@@ -487,7 +488,8 @@ class PlanWrongTest(unittest.TestCase):
     def test_bent_ones(self):
         fields = self.paper()
         for number, values in enumerate((
-            [SETS, LATE, CAREFUL], [Rule(PLAIN.root, [(True, False, 0)]), Rule([], [])], [fields[3], Tree("ab", [("", None, False)])],
+            [SETS, LATE, CAREFUL], [Rule(PLAIN.root, [(True, False, 0)]), Rule([], [])],
+            [fields[3], Tree("ab", [("", None, False)])],
             [fields[2], Tree("ba", fields[3].rows)], [fields[2], Tree("ab", fields[4].rows + (("aa", None, False),))],
             ["rule", "clash", "right", "none", "", ("words",)],
         )):

@@ -12,7 +12,8 @@ from tests.test_branches import DEEDS, EMPTY, FIVE, FREE, PLAIN, SETS, check_tol
 from treeshed.books import Book, known_book
 from treeshed.branches import Branches
 from treeshed.errors import (
-    BadDeed, BadLog, BadName, BadWord, BrokenRule, InTheWay, NoBranch, NoDeed, NoLabel, NoNumber, NoPlace, TooMany, UsedLabel,
+    BadDeed, BadLog, BadName, BadWord, BrokenRule, InTheWay, NoBranch, NoDeed, NoLabel, NoNumber, NoPlace, TooMany,
+    UsedLabel,
     UsedName)
 from treeshed.merging import Clash
 from treeshed.plans import known_plan
@@ -286,15 +287,16 @@ class LogTest(unittest.TestCase):
         bent = [list(row), row[:-1], row + (1,), (), (row,), row[0], None, (row[0].upper(),) + row[1:], ("holds",),
                 (None,) + row[1:], (1,) + row[1:], ([row[0]],) + row[1:]]
         for at in range(1, len(row)):
-            bent += [row[:at] + (value,) + row[at + 1:] for value in (None, "Z", "", 77, [], {"a": 1}, True, (row[at],))]
+            bent += [row[:at] + (value,) + row[at + 1:] for value in (None, "Z", "", 77, [], {"a": 1}, True,
+                                                                      (row[at],))]
         return [told for told in bent if not self.may_be_done(row, told)]
 
     def may_be_done(self, row, told):
         """Whether a row that was bent in one field may well be done."""
         if not isinstance(told, tuple) or len(told) != len(row):
             return False
-        place = 3 if row[0] in ("do", "hold") else None
-        return place is not None and told[place] == "" and told[:place] == row[:place] and told[place + 1:] == row[place + 1:]
+        # The root is a word and a place, too.
+        return row[0] in ("do", "hold") and told == row[:3] + ("",) + row[4:]
 
     def test_a_bent_row_is_refused_with_its_index(self):
         source = seeded(282)
@@ -338,7 +340,8 @@ class LogTest(unittest.TestCase):
         arguments = [EMPTY, FIVE, PLAIN, SETS, known_book()]
         for index, log in (
             (1, [("fork", "x", "main"), ("fork", "x", "main")]), (0, [("drop", "x"), ("fork", "x", "main")]),
-            (3, [("fork", "x", "main"), ("do", "x", "put", "a", 1), ("do", "main", "put", "a", 2), ("take", "x", "main"),
+            (3, [("fork", "x", "main"), ("do", "x", "put", "a", 1), ("do", "main", "put", "a", 2),
+                 ("take", "x", "main"),
                  ("drop", "z")]),
             (2, [("do", "main", "put", "a", 1), ("do", "main", "strike", "a", 1), ("undo", "main", 0)]),
             (1, [("drop", "main"), ("do", "main", "has", "a", 1)]),
@@ -352,7 +355,8 @@ class LogTest(unittest.TestCase):
         broken, bad = Tree("ab", [("", None, True)]), Routine([], [("flag", True)], [])
         rest = [PLAIN, SETS, known_book()]
         for told, arguments in (
-            ((BadName, {"name": "A"}), [broken, {"x": bad, "A": bad}]), ((BadDeed, {"name": "x"}), [broken, {"x": bad}]),
+            ((BadName, {"name": "A"}), [broken, {"x": bad, "A": bad}]),
+            ((BadDeed, {"name": "x"}), [broken, {"x": bad}]),
             ((BrokenRule, {}), [broken, FIVE]),
         ):
             check_raises(self, *told, Shed, *arguments, *rest)

@@ -4,7 +4,7 @@ import itertools
 import unittest
 
 from tests.drawing import rule_around, some_tree
-from tests.helpers import KINDS, alike, any_values, check_raises, seeded, some_letters
+from tests.helpers import KINDS, alike, any_values, check_raises, seeded
 from tests.merges import case_at, due, some_plan, some_side
 from tests.test_merging import some_three, two_wide_sides
 from treeshed.errors import NoPlace, OtherLetters

@@ -114,7 +114,8 @@ class OverviewTest(unittest.TestCase):
 
     def test_a_store_of_versions_that_share_what_did_not_change(self):
         branches = some_branches(Branches)
-        self.assertEqual([branches.shared_places("main", "x"), branches.stored(), branches.take("main", "x")], [2, 6, True])
+        self.assertEqual([branches.shared_places("main", "x"), branches.stored(), branches.take("main", "x")],
+                         [2, 6, True])
         self.assertEqual(branches.tree_at("main").word_items(), (("a", 1), ("b", 1), ("ba", 2)))
 
 
@@ -217,7 +218,8 @@ class ArgumentsTest(unittest.TestCase):
         cases = [
             (lambda wrap: Tree("ab", wrap([wrap(row) for row in TREE.rows])) == TREE),
             (lambda wrap: Tree.of("ab", wrap([wrap(item) for item in TREE.word_items()])) == TREE),
-            (lambda wrap: Rule(wrap([wrap(kind) for kind in kinds]), wrap([wrap(kind) for kind in PLAIN.others])) == PLAIN),
+            (lambda wrap: Rule(wrap([wrap(kind) for kind in kinds]),
+                               wrap([wrap(kind) for kind in PLAIN.others])) == PLAIN),
             (lambda wrap: Routine(*[wrap(as_lists(block)) for block in (PUT.down, PUT.turn, PUT.up)]) == PUT),
             (lambda wrap: [tree.rows for tree in all_trees(PLAIN, "ab", 2, wrap([1, 2]))]),
             (lambda wrap: played(TREE, wrap([wrap([PUT, "b", 1])])).answers),
@@ -231,7 +233,8 @@ class ArgumentsTest(unittest.TestCase):
             (lambda wrap: judge_forks(SETS, PUT, STRIKE, PLAIN, "same", True, wrap([1, 2])).tables),
             (lambda wrap: fork_on(SETS, question, TREE, wrap(["a", "b"]))),
             (lambda wrap: Grove("ab", {"A": wrap([1, False, {}])}, "A").rules),
-            (lambda wrap: Shed.replayed(TREE, {"put": PUT}, PLAIN, SETS, known_book(), wrap([("fork", "x", "main")])).log()),
+            (lambda wrap: Shed.replayed(TREE, {"put": PUT}, PLAIN, SETS, known_book(),
+                                        wrap([("fork", "x", "main")])).log()),
         ]
         for told in cases:
             self.assertTrue(alike(told(list), told(tuple)))
@@ -289,8 +292,10 @@ class ArgumentsTest(unittest.TestCase):
         store = Versions(TREE)
         for told in (
             TREE.rows, TREE.word_items(), TREE.row("a"), PLAIN.root, PUT.turn, call(TREE, PUT, "b", 1),
-            played(TREE, []).trees, rows_of(question, (0, 1)), stories_of(question, (0,), True), enough_values(question),
-            judge(question, PLAIN, "same", [1]).tables, answers_of(DEEDS, TREE, []), least_row(known_book(), DEEDS, TREE, []),
+            played(TREE, []).trees, rows_of(question, (0, 1)), stories_of(question, (0,), True),
+            enough_values(question),
+            judge(question, PLAIN, "same", [1]).tables, answers_of(DEEDS, TREE, []),
+            least_row(known_book(), DEEDS, TREE, []),
             merged(SETS, TREE, TREE, TREE).taken, due(TREE, TREE, TREE, "a"), low, empty_sum(), added(empty_sum(), low),
             closed(SETS, PLAIN, empty_sum(), ((1, False), None, None)), judge_plan(SETS, PLAIN).cases,
             needless(known_plan("careful"), PLAIN), judge_forks(SETS, PUT, STRIKE, PLAIN, "same", True, [1]).rows,

@@ -4,7 +4,7 @@ A single state is told by the story of the part that the call leaves, or None if
 story is always the first one: a part that was there at first has ("old", ()) ahead of all others.
 """
 
-from treeshed.folding import TREE, Below, Fold, Folder, Stories, root_answer
+from treeshed.folding import Below, Fold, Folder, Stories, root_answer
 from treeshed.mixing import is_left_out, merged_cell, next_step, told_flag
 
 CLASH = ("clash",)

@@ -198,7 +198,17 @@ class JudgePlanTest(unittest.TestCase):
         source = seeded(230)
         many = {}
         plans = [(BACK, PLAIN), (CAREFUL, PLAIN), (SETS, JOINED)]
-        for number in range(26):
+        # Here places that all three have, or that each has alone, cost alike if they are counted wrong.
+        for fields, root, others in (
+            (("bare", "take", "one", False), [(False, False, 2), (False, True, 1)],
+             [(False, True, 0), (False, True, 2)]),
+            (("bare", "take", "clash", False), [(True, False, 1), (True, True, 2)],
+             [(False, False, 0), (False, True, 1)]),
+            (("base", "take", "clash", False), [(False, False, 1), (False, True, 1), (True, True, 2)],
+             [(False, False, 1), (False, True, 0)]),
+        ):
+            plans.append((Plan(*fields), Rule(root, others)))
+        for number in range(22):
             rule = Rule(source.sample(KINDS, 3), source.sample(KINDS, source.choice([2, 3, 4])))
             plans.append((some_plan(source), rule))
         for plan, rule in plans:
